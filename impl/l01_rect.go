@@ -139,6 +139,10 @@ func (b box) meets(other box) bool {
 	return true
 }
 
+func (b box) covers(other box) bool {
+	return b.union(other) == b
+}
+
 // A product, unlike a sum, is spoilt by the 0 of a dimension that the box has
 // not, so it has to know how many there are.
 func (b box) area(dims int64) int64 {
@@ -177,11 +181,7 @@ func Meets(a Rect, b Rect) bool {
 }
 
 func Covers(a Rect, b Rect) bool {
-	if rectsFault(a, b) != OK {
-		return false
-	}
-	outer := boxFrom(a)
-	return outer.union(boxFrom(b)) == outer
+	return rectsFault(a, b) == OK && boxFrom(a).covers(boxFrom(b))
 }
 
 func AreaOf(r Rect) IntResult {
