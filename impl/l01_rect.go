@@ -53,6 +53,15 @@ func within(least int64, most int64, numbers ...int64) bool {
 	return true
 }
 
+func rises(numbers []int64) bool {
+	for i := 1; i < len(numbers); i++ {
+		if numbers[i] <= numbers[i-1] {
+			return false
+		}
+	}
+	return true
+}
+
 func PointFault(p []int64, dims int64) int64 {
 	if !within(minDims, MaxDims, dims) {
 		return ErrRange
