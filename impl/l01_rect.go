@@ -178,6 +178,17 @@ func (b box) distance(c corner) int64 {
 	return sum
 }
 
+func (b box) overlap(other box, dims int64) int64 {
+	if !b.meets(other) {
+		return 0
+	}
+	return b.common(other).area(dims)
+}
+
+func (b box) growth(other box, dims int64) int64 {
+	return b.union(other).area(dims) - b.area(dims)
+}
+
 func UnionOf(a Rect, b Rect) RectResult {
 	if code := rectsFault(a, b); code != OK {
 		return RectResult{Code: code}
@@ -211,19 +222,14 @@ func OverlapOf(a Rect, b Rect) IntResult {
 	if code := rectsFault(a, b); code != OK {
 		return IntResult{Code: code}
 	}
-	first, second := boxFrom(a), boxFrom(b)
-	if !first.meets(second) {
-		return IntResult{}
-	}
-	return IntResult{Value: first.common(second).area(dimsOf(a))}
+	return IntResult{Value: boxFrom(a).overlap(boxFrom(b), dimsOf(a))}
 }
 
 func GrowthOf(a Rect, b Rect) IntResult {
 	if code := rectsFault(a, b); code != OK {
 		return IntResult{Code: code}
 	}
-	first, dims := boxFrom(a), dimsOf(a)
-	return IntResult{Value: first.union(boxFrom(b)).area(dims) - first.area(dims)}
+	return IntResult{Value: boxFrom(a).growth(boxFrom(b), dimsOf(a))}
 }
 
 func DistOf(r Rect, p []int64) IntResult {
