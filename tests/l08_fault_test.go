@@ -38,10 +38,20 @@ const (
 	rankOfWatchForm
 )
 
-// rightDropArgs take a pair out of a leaf that has two, so that a leaf is
+// loudDropArgs take a pair out of a leaf that has two, so that a leaf is
 // retired.
-func rightDropArgs(dims int64) dropArgs {
+func loudDropArgs(dims int64) dropArgs {
 	return dropArgs{threeLevels(dims), withIdsAlone(dims, 50)[0], []int64{0, 2}}
+}
+
+// quietDropArgs take a pair out of a leaf that has four, so that no node is
+// retired.
+func quietDropArgs(dims int64) dropArgs {
+	return dropArgs{threeLevels(dims), withIdsAlone(dims, 3)[0], []int64{0, 2}}
+}
+
+func rightDropArgs(dims int64) []dropArgs {
+	return []dropArgs{loudDropArgs(dims), quietDropArgs(dims)}
 }
 
 func (x dropArgs) turned(turns ...dropTurn) dropArgs {
@@ -124,7 +134,7 @@ func watchTurns() []dropTurn {
 	}
 }
 
-// wrongWatches are all told by a code, where a node is retired.
+// wrongWatches are all told by a code.
 func wrongWatches() [][]int64 {
 	var list [][]int64
 	for _, c := range watchTurns() {
@@ -155,7 +165,9 @@ func dropFaults() []dropCase {
 	}
 	for dims := int64(2); dims <= 3; dims++ {
 		for _, c := range dropTurns() {
-			list = append(list, dropCase{c.name, rightDropArgs(dims).turned(c), c.want, c.rank >= rankOfWatchMany})
+			for _, x := range rightDropArgs(dims) {
+				list = append(list, dropCase{c.name, x.turned(c), c.want, c.rank >= rankOfWatchMany})
+			}
 		}
 	}
 	return list
@@ -167,8 +179,10 @@ func dropFaultsAtOnce() []dropCase {
 	var list []dropCase
 	for _, early := range dropTurns() {
 		for _, late := range dropTurns() {
-			if early.rank < late.rank && early.rank < rankOfWatchMany {
-				x := rightDropArgs(2 + int64(len(list)%2))
+			if early.rank >= late.rank || early.rank >= rankOfWatchMany {
+				continue
+			}
+			for _, x := range rightDropArgs(2 + int64(len(list)/2%2)) {
 				list = append(list, dropCase{early.name + " ahead of: " + late.name, x.turned(late, early), early.want, false})
 			}
 		}
@@ -178,9 +192,10 @@ func dropFaultsAtOnce() []dropCase {
 
 func TestDropThatCannotBe(t *testing.T) {
 	for dims := int64(2); dims <= 3; dims++ {
-		x := rightDropArgs(dims)
-		if code, did := sayDrop(t, "what is turned", x.t, x.p, x.watch); code != impl.OK || !did.retires() {
-			t.Fatalf("the code %d, %v", code, did.did)
+		for i, x := range rightDropArgs(dims) {
+			if code, did := sayDrop(t, "what is turned", x.t, x.p, x.watch); code != impl.OK || did.retires() != (i == 0) {
+				t.Fatalf("%d: the code %d, %v", i, code, did.did)
+			}
 		}
 	}
 	for _, c := range append(dropFaults(), dropFaultsAtOnce()...) {
@@ -196,19 +211,40 @@ func TestDropThatCannotBe(t *testing.T) {
 
 // quietDrops take pairs out without retiring a node.
 func quietDrops(dims int64) []dropArgs {
-	list := []dropArgs{
+	return []dropArgs{
+		quietDropArgs(dims),
 		{oneLevel(dims, 1), withIdsAlone(dims, 30)[0], nil},
 		{oneLevel(dims, 4), withIdsAlone(dims, 999)[0], nil},
 		{twoLevels(dims), withIdsAlone(dims, 39)[0], nil},
-		{threeLevels(dims), withIdsAlone(dims, 3)[0], nil},
 		{grown(dims, []int{2, 4}, []int{2}), manyPairs(dims, 6)[1], nil},
 		{grown(dims, []int{4, 2}, []int{2}), manyPairs(dims, 6)[4], nil},
 	}
-	return list
 }
 
-// Who watches is told by RetireNode alone: where no node is retired nobody is
-// asked, and whoever is named watches nothing.
+// loudDrops retire a node below the root, two of them, or the root.
+func loudDrops(dims int64) []dropArgs {
+	return []dropArgs{
+		loudDropArgs(dims),
+		{threeLevels(dims), withIdsAlone(dims, 999)[0], nil},
+		{grown(dims, []int{2, 2}, []int{2}), manyPairs(dims, 4)[2], nil},
+		{grown(dims, []int{3, 2, 3}, []int{3}), manyPairs(dims, 8)[3], nil},
+		{grown(dims, times(16, 2), times(8, 2), times(4, 2), []int{2, 2}, []int{2}), manyPairs(dims, 32)[17], nil},
+	}
+}
+
+// sayWatchCodes wants the code of each watch that is wrong. DropFrom, which has
+// nobody who watches, is asked beside it.
+func sayWatchCodes(t *testing.T, what string, tr impl.Tree, p impl.Pair) {
+	t.Helper()
+	for _, c := range watchTurns() {
+		x := dropArgs{tr, p, nil}.turned(c)
+		wantDropCode(t, what+": "+c.name, x.t, x.p, x.watch, c.want)
+		sayDrop(t, what+": "+c.name, x.t, x.p, x.watch)
+	}
+}
+
+// Nobody is told of a node that is not retired, but whether who watches may
+// watch is asked all the same.
 func TestWrongWatchWhereNothingIsRetired(t *testing.T) {
 	for dims := int64(2); dims <= 3; dims++ {
 		for i, x := range quietDrops(dims) {
@@ -216,22 +252,12 @@ func TestWrongWatchWhereNothingIsRetired(t *testing.T) {
 			if want.Code != impl.OK || modelDrop(x.t, x.p, nil).retires() {
 				t.Fatalf("%d: the code %d", i, want.Code)
 			}
-			for _, watch := range append(watches(), wrongWatches()...) {
+			sayWatchCodes(t, fmt.Sprint(i), x.t, x.p)
+			for _, watch := range watches() {
 				sayDropTrace(t, fmt.Sprint(i, " watched by ", watch), impl.DropTrace(x.t, x.p, watch), want.Trees, want.Moves)
 				sayDrop(t, fmt.Sprint(i, " watched by ", watch), x.t, x.p, watch)
 			}
 		}
-	}
-}
-
-// loudDrops retire a node below the root, two of them, or the root.
-func loudDrops(dims int64) []dropArgs {
-	return []dropArgs{
-		rightDropArgs(dims),
-		{threeLevels(dims), withIdsAlone(dims, 999)[0], nil},
-		{grown(dims, []int{2, 2}, []int{2}), manyPairs(dims, 4)[2], nil},
-		{grown(dims, []int{3, 2, 3}, []int{3}), manyPairs(dims, 8)[3], nil},
-		{grown(dims, times(16, 2), times(8, 2), times(4, 2), []int{2, 2}, []int{2}), manyPairs(dims, 32)[17], nil},
 	}
 }
 
@@ -241,13 +267,38 @@ func TestWrongWatchWhereANodeIsRetired(t *testing.T) {
 			if !modelDrop(x.t, x.p, nil).retires() {
 				t.Fatalf("%d: nothing is retired", i)
 			}
-			for _, c := range watchTurns() {
-				turned := x.turned(c)
-				wantDropCode(t, fmt.Sprint(i, ": ", c.name), turned.t, turned.p, turned.watch, c.want)
-			}
+			sayWatchCodes(t, fmt.Sprint(i), x.t, x.p)
 			for _, watch := range watches() {
 				sayDrop(t, fmt.Sprint(i, " watched by ", watch), x.t, x.p, watch)
 			}
+		}
+	}
+}
+
+// Each pair of a tree that was put together pair by pair, from one on; who
+// watches is asked behind whether there is such a pair.
+func TestWrongWatchOfEachPair(t *testing.T) {
+	for dims := int64(2); dims <= 3; dims++ {
+		loud, quiet := 0, 0
+		pairs := manyPairs(dims, 14)
+		tr := impl.NewTree(dims, impl.StyleQuad, 16).Tree
+		for count, p := range pairs {
+			tr = impl.PutInto(tr, p).Tree
+			for i, gone := range pairs {
+				if i > count {
+					sayNotDropped(t, "what is not there yet", tr, gone, impl.ErrNone)
+					continue
+				}
+				sayWatchCodes(t, fmt.Sprint(count, " pairs, the pair ", i), tr, gone)
+				if modelDrop(tr, gone, nil).retires() {
+					loud++
+				} else {
+					quiet++
+				}
+			}
+		}
+		if loud < 5 || quiet < 50 {
+			t.Errorf("%d loud ones, %d quiet ones", loud, quiet)
 		}
 	}
 }
@@ -365,6 +416,7 @@ func TestDropFromAMaze(t *testing.T) {
 		tr = fitted(tr)
 		sayDrop(t, "a maze that is fitted", tr, p, nil)
 		if impl.TreeFault(tr) == impl.OK {
+			sayDropEach(t, "a maze that is right", tr, watches()[m.next(16)])
 			sayDropEach(t, "a maze that is right", tr, []int64{m.number(), m.number()})
 		}
 	}

@@ -174,11 +174,12 @@ func sayByTurns(t *testing.T, name string, tr impl.Tree, boxAt func(i int64) imp
 func TestOnePairOutOfEachRightTree(t *testing.T) {
 	t.Parallel()
 	eachRightTree(t, func(t *testing.T, c treeCase) {
-		watch := append(watches(), wrongWatches()...)
+		right, wrong := watches(), wrongWatches()
 		for style := range int64(2) {
 			c.t.Style = style
 			for i, p := range tourOf(c.t).pairs {
-				sayDrop(t, fmt.Sprint("the pair ", i), c.t, p, watch[(i*7+3)%len(watch)])
+				sayDrop(t, fmt.Sprint("the pair ", i), c.t, p, right[(i*7+3)%len(right)])
+				sayDrop(t, fmt.Sprint("the pair ", i), c.t, p, wrong[(i*7+3)%len(wrong)])
 			}
 		}
 	})

@@ -276,9 +276,8 @@ func sayDrop(t *testing.T, what string, tr impl.Tree, p impl.Pair, watch []int64
 		sayNotDropped(t, what, tr, p, want)
 		return want, &dropper{}
 	}
-	alone := modelDrop(tr, p, nil)
-	sayTreeIs(t, what, impl.DropFrom(tr, p), alone.t)
-	if want := modelWatchCode(watch); want != impl.OK && alone.retires() {
+	sayTreeIs(t, what, impl.DropFrom(tr, p), modelDrop(tr, p, nil).t)
+	if want := modelWatchCode(watch); want != impl.OK {
 		wantDropCode(t, what, tr, p, watch, want)
 		return want, &dropper{}
 	}
